@@ -396,21 +396,26 @@ func handed(data []byte) (piece []byte, kept func() bool) {
 func TestPiecesStayAsTheyAre(t *testing.T) {
 	for _, data := range slices.Concat(somePieces(), longPieces) {
 		piece, kept := handed(data)
-		calls := []struct {
-			name string
-			call func()
-		}{
-			{"SumOf", func() { impl.SumOf(piece) }},
-			{"LeafSum", func() { impl.LeafSum(piece) }},
-			{"LeafBytes", func() { impl.LeafBytes(piece) }},
-			{"IsClash, A", func() { impl.IsClash(impl.Clash{Found: true, A: piece, B: []byte{6, 63}}) }},
-			{"IsClash, B", func() { impl.IsClash(impl.Clash{Found: true, A: []byte{6, 63}, B: piece}) }},
-		}
-		for _, c := range calls {
-			// Looked at behind each call: two calls could undo each other's change.
-			if c.call(); !kept() {
-				t.Fatalf("%s changed what it was handed, of %d bytes", c.name, len(data))
-			}
+		changesNothing(t, kept,
+			namedCall{"SumOf", func() { impl.SumOf(piece) }},
+			namedCall{"LeafSum", func() { impl.LeafSum(piece) }},
+			namedCall{"LeafBytes", func() { impl.LeafBytes(piece) }},
+			namedCall{"IsClash, A", func() { impl.IsClash(impl.Clash{Found: true, A: piece, B: []byte{6, 63}}) }},
+			namedCall{"IsClash, B", func() { impl.IsClash(impl.Clash{Found: true, A: []byte{6, 63}, B: piece}) }})
+	}
+}
+
+type namedCall struct {
+	name string
+	call func()
+}
+
+func changesNothing(t *testing.T, kept func() bool, calls ...namedCall) {
+	t.Helper()
+	for _, c := range calls {
+		// Looked at behind each call: two calls could undo each other's change.
+		if c.call(); !kept() {
+			t.Fatalf("%s changed what it was handed", c.name)
 		}
 	}
 }
@@ -491,14 +496,18 @@ func binaryOf(n int64) []byte {
 	return list
 }
 
-func TestSumsHangOnTheirArgumentsAlone(t *testing.T) {
-	first := sumAnswers()
-	if !slices.Equal(first, sumAnswers()) {
+func TestSumsHangOnTheirArgumentsAlone(t *testing.T) { answeredAlike(t, sumAnswers) }
+
+// answeredAlike asks all that answers asks again, by itself and beside others.
+func answeredAlike(t *testing.T, answers func() []string) {
+	t.Helper()
+	first := answers()
+	if !slices.Equal(first, answers()) {
 		t.Error("the same arguments were answered in two ways")
 	}
 	told := make(chan []string)
 	for range 4 {
-		go func() { told <- sumAnswers() }()
+		go func() { told <- answers() }()
 	}
 	for range 4 {
 		if !slices.Equal(first, <-told) {
