@@ -386,11 +386,11 @@ func TestClashIsTwoPiecesOfOneSum(t *testing.T) {
 	}
 }
 
-// handed lays data where other bytes stand behind it in the same memory; all that is handed over is looked at by kept.
-func handed(data []byte) (piece []byte, kept func() bool) {
+// handed lays a list where other elements stand behind it in the same memory; all that is handed over is looked at by kept.
+func handed[T byte | int64](data []T) (list []T, kept func() bool) {
 	room := append(slices.Clone(data), 77, 78, 79, 80)
 	was := slices.Clone(room)
-	return room[:len(data)], func() bool { return bytes.Equal(room, was) }
+	return room[:len(data)], func() bool { return slices.Equal(room, was) }
 }
 
 func TestPiecesStayAsTheyAre(t *testing.T) {
@@ -421,7 +421,7 @@ func changesNothing(t *testing.T, kept func() bool, calls ...namedCall) {
 }
 
 // spoil writes over all memory that a list can reach.
-func spoil(list []byte) {
+func spoil[T byte | int64](list []T) {
 	list = list[:cap(list)]
 	for i := range list {
 		list[i] ^= 0xA5
