@@ -595,35 +595,44 @@ func TestTreesLeaveTheirArgumentsAsTheyAre(t *testing.T) {
 	}
 }
 
+// ownMemory asks for a list out of leaves: what comes shares no memory with them, nor with another answer.
+func ownMemory(t *testing.T, name string, leaves []int64, want []int64, ask func(leaves []int64) []int64) {
+	t.Helper()
+	given, kept := handed(leaves)
+	first, second := ask(given), ask(given)
+	spoil(first)
+	if !kept() {
+		t.Fatalf("%s shares memory with its leaves", name)
+	}
+	if !slices.Equal(second, want) || !slices.Equal(ask(given), want) {
+		t.Fatalf("%s shares memory with another answer", name)
+	}
+	spoil(given[:len(leaves):len(leaves)])
+	if !slices.Equal(second, want) {
+		t.Fatalf("%s changes with its leaves", name)
+	}
+}
+
 func TestPathsAreMemoryOfTheirOwn(t *testing.T) {
 	for size, at := range placesIn {
-		leaves, kept := handed(strewn(int(size), 5))
-		want := toldPath(leaves, at)
-		first, second := impl.PathOf(leaves, at), impl.PathOf(leaves, at)
-		spoil(first.List)
-		if !kept() {
-			t.Fatalf("PathOf at %d of %d shares memory with its leaves", at, size)
-		}
-		if !slices.Equal(second.List, want) || !slices.Equal(impl.PathOf(leaves, at).List, want) {
-			t.Fatalf("PathOf at %d of %d shares memory with another answer", at, size)
-		}
-		spoil(leaves[:size:size])
-		if !slices.Equal(second.List, want) {
-			t.Fatalf("PathOf at %d of %d changes with its leaves", at, size)
-		}
+		leaves := strewn(int(size), 5)
+		ownMemory(t, "PathOf", leaves, toldPath(leaves, at), func(leaves []int64) []int64 { return impl.PathOf(leaves, at).List })
 	}
+}
+
+// rowOf tells an answer that is numbers as one text.
+func rowOf(numbers ...int64) string {
+	var row []byte
+	for _, n := range numbers {
+		row = append(row, binaryOf(n)...)
+	}
+	return string(row)
 }
 
 // treeAnswers asks all functions of the chapter at arguments in bounds and out of them; what it tells is one row an answer.
 func treeAnswers() []string {
 	var rows []string
-	tell := func(numbers ...int64) {
-		var row []byte
-		for _, n := range numbers {
-			row = append(row, binaryOf(n)...)
-		}
-		rows = append(rows, string(row))
-	}
+	tell := func(numbers ...int64) { rows = append(rows, rowOf(numbers...)) }
 	ints := func(r impl.IntResult) { tell(r.Code, r.Value) }
 	numbers := slices.Concat(wildNumbers, []int64{5, 23, 24, 25, 65520, 65521})
 	for _, size := range numbers {
