@@ -398,22 +398,28 @@ func TestClimbsOutOfRange(t *testing.T) {
 	}
 }
 
+// pathWithFaults tells a path with the faults that the lowest three bits of wrong ask for, and the code that comes first of these.
+func pathWithFaults(right []int64, wrong int) (path []int64, code int64) {
+	path = slices.Clone(right)
+	if wrong&1 != 0 {
+		path, code = append(path, 3), impl.ErrProof
+	}
+	if wrong&2 != 0 {
+		path[len(path)-1], code = 65521, impl.ErrRange
+	}
+	if wrong&4 != 0 {
+		path, code = append(path, 1, 2, 3, 4, 5), impl.ErrMany
+	}
+	return path, code
+}
+
 // Each of the things is right or wrong, in all ways together: the first code that is so is told.
 func TestClimbCodesStandInTheirOrder(t *testing.T) {
 	const size, at = 7, 6
 	right := []int64{47282, 26847}
 	for wrong := range 64 {
-		leaf, place, count, path := int64(7), int64(at), int64(size), slices.Clone(right)
-		want := int64(impl.OK)
-		if wrong&1 != 0 {
-			path, want = append(path, 3), impl.ErrProof
-		}
-		if wrong&2 != 0 {
-			path[len(path)-1], want = 65521, impl.ErrRange
-		}
-		if wrong&4 != 0 {
-			path, want = append(path, 1, 2, 3, 4, 5), impl.ErrMany
-		}
+		leaf, place, count := int64(7), int64(at), int64(size)
+		path, want := pathWithFaults(right, wrong)
 		if wrong&8 != 0 {
 			place, want = 7, impl.ErrRange
 		}
